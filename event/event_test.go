@@ -8,6 +8,7 @@ import (
 	"testing"
 
 	"huckster/api"
+	"huckster/dots"
 )
 
 // most is the greatest number that a dot has.
@@ -578,6 +579,46 @@ func TestAheadNear(t *testing.T) {
 	for _, past := range []api.Clock{{-1, 5}, {5, 5, 5, 5, 5, 5}, {most + 1}, {5, math.MaxInt}} {
 		if Ahead(named(1, 1), api.Event{Past: past}) || Ahead(named(2, 1), api.Event{Past: past}) {
 			t.Errorf("a Past that may not be, %v, has dots", past)
+		}
+	}
+}
+
+// Ev2: what a Past has are dots that may be: an event whose Dot may not be is ahead of none, itself among them.
+func TestAheadOfADotThatMayNotBe(t *testing.T) {
+	pasts := []api.Clock{nil, {}, {1}, {0, 1}, {3, 0, 2}, {9, 9, 9, 9, 9}, {most, most, most, most, most}, {-1, 5}, {0, 0, 0, 0, 0, 5}}
+	wrongReps := []int{math.MinInt, -1, 0, 6, 7, math.MaxInt}
+	wrongSeqs := []int{math.MinInt, -3, -1, 0, most + 1, math.MaxInt}
+	var wrong []api.Dot
+	for _, rep := range wrongReps {
+		for _, seq := range append([]int{1, 2, most}, wrongSeqs...) {
+			wrong = append(wrong, dot(rep, seq))
+		}
+	}
+	for rep := 1; rep <= 5; rep++ {
+		for _, seq := range wrongSeqs {
+			wrong = append(wrong, dot(rep, seq))
+		}
+	}
+	for _, d := range wrong {
+		for _, past := range pasts {
+			a := api.Event{Dot: d, Past: past}
+			if Ahead(a, a) || Ahead(a, api.Event{Past: past}) || Ahead(api.Event{Dot: d}, api.Event{Dot: dot(2, 1), Past: past}) {
+				t.Errorf("the Past %v is told to have %v, which may not be", past, d)
+			}
+		}
+	}
+}
+
+// Ev2: of one word there is one meaning: a dot is ahead by a Past, if and only if those seen up to that Past have it.
+func TestAheadIsWhatAPastHas(t *testing.T) {
+	for _, past := range []api.Clock{nil, {1}, {0, 1}, {3, 0, 2}, {1, 2, 3, 4, 5}, {0, 0, 0, 0, most}} {
+		for rep := -1; rep <= 7; rep++ {
+			for _, seq := range []int{-2, -1, 0, 1, 2, 3, 4, 5, 6, most - 1, most, most + 1} {
+				want := dots.Has(api.Seen{Upto: past}, dot(rep, seq))
+				if got := Ahead(api.Event{Dot: dot(rep, seq)}, api.Event{Past: past}); got != want {
+					t.Errorf("Ahead(%d.%d, %v) = %v, want %v", rep, seq, past, got, want)
+				}
+			}
 		}
 	}
 }
