@@ -7,7 +7,6 @@ import (
 	"testing"
 
 	"huckster/api"
-	"huckster/lex"
 	"huckster/sorts"
 )
 
@@ -105,33 +104,40 @@ func TestArgAheadOfBig(t *testing.T) {
 	isNone(t, api.Rules{Sets: []string{strings.Repeat("a", 4091)}}, api.ErrArg)
 }
 
+// tokensOf is how many tokens layer 14 has of the text of rules.
+func tokensOf(r api.Rules) int {
+	n := 1
+	for _, line := range asTokens(r) {
+		n += len(line) + 1
+	}
+	return n
+}
+
 // Sh1: a text is told also where it has more tokens than layer 14 reads, as the bound is one of bytes; up to that many, it is read again (Sh2).
 func TestManyTokens(t *testing.T) {
-	lengths := map[int]int{}
-	for deeds := 1; deeds <= 13; deeds++ {
-		r := full(15)
-		r.Opers[14].Does = r.Opers[14].Does[:deeds]
-		s, e := Text(r)
-		if e != api.OK || s != asText(r) {
-			t.Errorf("%d deeds: got %d", deeds, e)
+	r := doing(full(15), api.Doing{Kind: api.EffAdd})
+	for i, want := range []int{799, 800, 801, 802} {
+		if i > 0 {
+			r.Clauses[[]int{1, 3, 5}[i-1]].Strict = true
 		}
-		tokens := 13*3 + 8*5 + 4*6 + 14*46 + 3 + 1
-		tokens += 2*min(deeds, 6) + 3*min(4, max(deeds-6, 0)) + 2*max(deeds-10, 0) + deeds
-		_, _, e = lex.Read(s)
-		if (e == api.OK) != (tokens <= api.MaxTokens) {
-			t.Errorf("%d tokens: layer 14 told %d", tokens, e)
+		if n := tokensOf(r); n != want {
+			t.Fatalf("made rules of %d tokens, want %d", n, want)
 		}
-		lengths[tokens]++
-		if tokens <= api.MaxTokens {
+		isText(t, r, asText(r))
+		if want <= api.MaxTokens {
 			isRead(t, r)
-		} else if _, _, e = sorts.Read(s); e != api.ErrBig {
-			t.Errorf("%d tokens: layer 16 told %d", tokens, e)
+		} else if _, _, e := sorts.Read(asText(r)); e != api.ErrBig {
+			t.Errorf("%d tokens: layer 16 told %d", want, e)
 		}
 	}
-	if len(lengths) != 13 {
-		t.Errorf("only %v", lengths)
+	r = full(16)
+	for i := range 6 {
+		r.Clauses[i].Strict = true
+		r.Clauses[6+i] = r.Clauses[i]
 	}
-	r := full(16)
+	if n := tokensOf(r); n != 848 {
+		t.Errorf("made rules of %d tokens", n)
+	}
 	isText(t, r, asText(r))
 }
 
